@@ -1,0 +1,13 @@
+"""The refusals of the program."""
+
+
+class OrderError(ValueError):
+    pass
+
+
+class NoElement(OrderError):
+    pass
+
+
+class NoPlace(OrderError):
+    pass
