@@ -1,8 +1,12 @@
-"""Promise [2], as far as it is due: the classes."""
+"""Promise [2]: the classes, and where they are raised."""
 
 import unittest
 
+from helper import Asked, by_number, by_tag, rising, scripted, tagged
 from yourorder.errors import NoElement, NoPlace, OrderError
+from yourorder.heaps import pop
+from yourorder.maps import Map
+from yourorder.picks import best, ends, least, nth
 
 
 class ErrorsTest(unittest.TestCase):
@@ -34,6 +38,71 @@ class ErrorsTest(unittest.TestCase):
     def test_names(self):
         self.assertEqual([kind.__name__ for kind in (OrderError, NoElement, NoPlace)],
                          ["OrderError", "NoElement", "NoPlace"])
+
+
+class RaisedTest(unittest.TestCase):
+    """What is refused raises its class and no other one, changes nothing, and asks no question (but get)."""
+
+    def refused(self, refusal, ask):
+        with self.assertRaises(ValueError) as caught:
+            ask()
+        self.assertIs(type(caught.exception), refusal)
+        self.assertIs(type(str(caught.exception)), str)
+        self.assertEqual(caught.exception.args, (str(caught.exception),))
+
+    def test_of_what_is_empty(self):
+        for function in (pop, least, ends):
+            with self.subTest(function=function.__name__):
+                empty = []
+                self.refused(NoElement, lambda: function(empty, scripted([])))
+                self.assertEqual(empty, [])
+
+    def test_nth_of_places_that_are_not_there(self):
+        for n in (0, 1, 2, 3, 150, 300):
+            row = rising(n)[::-1]
+            for place in (-10 ** 20, -n - 1, -1, n, n + 1, n + 300, 10 ** 20):
+                with self.subTest(n=n, place=place):
+                    self.refused(NoPlace, lambda: nth(row, place, scripted([])))
+                    self.assertEqual(row, rising(n)[::-1])
+
+    def test_at_of_places_that_are_not_there(self):
+        for n in (0, 1, 2, 3, 150, 300):
+            order = Asked(by_number)
+            kept = Map(order)
+            for key in rising(n):
+                kept.put(key, "held")
+            asked = order.count()
+            for place in (-10 ** 20, -n - 1, -1, n, n + 1, n + 300, 10 ** 20):
+                with self.subTest(n=n, place=place):
+                    self.refused(NoPlace, lambda: kept.at(place))
+            self.assertEqual(order.count(), asked)
+            self.assertEqual(kept.pairs(), [(key, "held") for key in rising(n)])
+
+    def test_get_without_the_key(self):
+        for n in (0, 1, 2, 3, 150, 300):
+            kept = Map(by_number)
+            for key in rising(n, 2):
+                kept.put(key, None)
+            for key in range(-1, 2 * n + 1, 2):
+                self.refused(NoElement, lambda: kept.get(key))
+            self.assertEqual(kept.pairs(), [(key, None) for key in rising(n, 2)])
+
+    def test_places_that_are_there_are_not_refused(self):
+        for n in (1, 2, 3, 50):
+            row = tagged(rising(n))
+            kept = Map(by_tag)
+            for key in row:
+                kept.put(key, None)
+            for place in range(n):
+                self.assertEqual(nth(row[::-1], place, by_tag), row[place])
+                self.assertEqual(kept.at(place), (row[place], None))
+
+    def test_what_is_empty_is_not_refused_elsewhere(self):
+        self.assertEqual(best([], 0, scripted([])), [])
+        self.assertEqual(best([], 5, scripted([])), [])
+        kept = Map(scripted([]))
+        self.assertIs(kept.drop(1), False)
+        self.assertIs(kept.has(1), False)
 
 
 if __name__ == "__main__":

@@ -1,38 +1,58 @@
 """Promises [1] and [3], over all functions that are there: what is handed in stays, what is told is the asker's own,
-elements of every kind, and what may be asked."""
+elements of every kind, and what may be asked. What they ask of maps is tested beside the maps."""
 
 import unittest
 
-from helper import (EVERY_KIND, Asked, by_kind, by_number, by_tag, inserted, log, no_orders, numbers, rising, same,
-                    sign, tagged)
+from helper import (EVERY_KIND, Asked, by_kind, by_number, by_tag, inserted, log, no_orders, numbers, same, sign,
+                    tagged)
+from helper import rising as steps
+from yourorder.heaps import heaped, is_heap, pop, push
+from yourorder.picks import best, ends, least, nth, rising, turned_pairs
 from yourorder.rows import ahead, in_order, lower, merged, stable, unique, upper
 from yourorder.sets import both, either, without
 
-OF_ONE_ROW = (ahead, in_order, stable, unique)
+OF_ANY_ROW = (ahead, in_order, stable, unique, is_heap, heaped, turned_pairs, rising)
+OF_ROWS_WITH_SOME = (pop, least, ends)
 OF_A_KEY = (lower, upper)
 OF_TWO_ROWS = (merged, either, both, without)
+TELLING_YES_OR_NO = (in_order, is_heap)
+TELLING_A_NUMBER = (ahead, lower, upper, turned_pairs)
+TELLING_A_PAIR = (pop, ends)
+TELLING_AN_ELEMENT = (least, nth)
 SIZES = (0, 1, 2, 3, 7, 16, 33, 299, 300)
 
 
-def most_questions(function, n, m=0):
-    """The bounds of [10], [11] and [21]."""
-    if function in (ahead, in_order, unique):
+def most_questions(function, handed):
+    """The bounds of [10], [11], [21], [30] to [32] and [40] to [42]."""
+    n = len(handed[0])
+    if function in (ahead, in_order, unique, is_heap, least):
         return max(n - 1, 0)
-    if function is stable:
-        return n * log(n)
-    if function in OF_A_KEY:
+    if function in OF_TWO_ROWS:
+        return n + len(handed[1]) - 1 if handed[0] and handed[1] else 0
+    if function is best:
+        return n * (log(handed[1] + 1) + 1) if handed[1] else 0
+    if function in (lower, upper, push):
         return log(n + 1)
-    return n + m - 1 if n and m else 0
+    return {stable: n * log(n), nth: n * log(n), turned_pairs: n * log(n), rising: n * log(n + 1), pop: 2 * log(n),
+            heaped: 2 * n, ends: 3 * n // 2}[function]
 
 
 def calls(n):
     """Each function with rows of about n elements: the function, and what is handed in ahead of the order."""
     mixed = tagged(numbers(n, 9, n))
-    one = tagged(rising(n, 2))
-    other = tagged(rising(n // 2 + 1, 3), "other")
-    for function in OF_ONE_ROW:
-        yield function, [mixed]
-        yield function, [one]
+    one = tagged(steps(n, 2))
+    other = tagged(steps(n // 2 + 1, 3), "other")
+    for row in (mixed, one):
+        for function in OF_ANY_ROW:
+            yield function, [row]
+        for function in OF_ROWS_WITH_SOME if n else ():
+            yield function, [row]
+        for many in (0, 1, n // 2, n, n + 1):
+            yield best, [row, many]
+        for place in {0, n // 2, n - 1} if n else ():
+            yield nth, [row, place]
+        for number in (-1, n, 2 * n):
+            yield push, [row, (number, "new")]
     for function in OF_A_KEY:
         yield function, [one, (n, "key")]
     for function in OF_TWO_ROWS:
@@ -49,6 +69,20 @@ def asked_calls():
                 yield function, handed, Asked(make()), (function.__name__, n, name)
 
 
+def may_be_asked(function, handed):
+    """The elements that may stand first in a question, and those that may stand second."""
+    there = {id(element) for row in handed if isinstance(row, list) for element in row}
+    if function is push:
+        there.add(id(handed[1]))
+    return there, {id(handed[1])} if function in OF_A_KEY else there
+
+
+def lists_in(told):
+    if isinstance(told, tuple):
+        return [part for part in told if isinstance(part, list)]
+    return [told] if isinstance(told, list) else []
+
+
 class HandedInTest(unittest.TestCase):
     def test_what_is_handed_in_stays(self):
         for function, handed, order, name in asked_calls():
@@ -58,8 +92,7 @@ class HandedInTest(unittest.TestCase):
 
     def test_what_is_told_is_the_askers_own(self):
         for function, handed, order, name in asked_calls():
-            told = function(*handed, order)
-            if isinstance(told, list):
+            for told in lists_in(function(*handed, order)):
                 as_it_was = repr(handed)
                 told.append("more")
                 told[0] = "changed"
@@ -68,35 +101,43 @@ class HandedInTest(unittest.TestCase):
                 self.assertEqual(repr(handed), as_it_was, name)
 
     def test_a_second_call_tells_a_list_of_its_own(self):
-        row = tagged(rising(5))
-        for function, handed in ((stable, [row]), (unique, [row]), (merged, [row, []]), (merged, [[], row]),
-                                 (either, [row, row]), (both, [row, row]), (without, [row, []])):
-            with self.subTest(function=function.__name__):
-                told = function(*handed, by_tag)
-                self.assertEqual(told, row)
-                told.clear()
-                self.assertEqual(function(*handed, by_tag), row)
+        for n in (1, 2, 5, 40):
+            row = tagged(steps(n))
+            for function, handed in list(calls(n)) + [(unique, [row]), (merged, [row, []]), (either, [row, row]),
+                                                      (both, [row, row]), (without, [row, []])]:
+                with self.subTest(function=function.__name__, n=n):
+                    told = function(*handed, by_tag)
+                    as_it_was = repr(told)
+                    for part in lists_in(told):
+                        part.append("more")
+                        part.reverse()
+                    self.assertEqual(repr(function(*handed, by_tag)), as_it_was)
 
     def test_kinds_of_what_is_told(self):
         for n in SIZES:
             for function, handed in calls(n):
                 told = function(*handed, by_tag)
-                kind = bool if function is in_order else int if function in (ahead, lower, upper) else list
+                if function in TELLING_YES_OR_NO:
+                    kind = bool
+                elif function in TELLING_A_NUMBER:
+                    kind = int
+                else:
+                    kind = tuple if function in TELLING_A_PAIR + TELLING_AN_ELEMENT else list
                 self.assertIs(type(told), kind, function.__name__)
+                if function is pop:
+                    self.assertIs(type(told[1]), list)
 
     def test_only_what_was_handed_in_is_asked_of(self):
         for function, handed, order, name in asked_calls():
             function(*handed, order)
-            there = {id(element) for row in handed if isinstance(row, list) for element in row}
-            second_there = {id(handed[1])} if function in OF_A_KEY else there
+            there, second_there = may_be_asked(function, handed)
             self.assertLessEqual({id(first) for first, _ in order.questions}, there, name)
             self.assertLessEqual({id(second) for _, second in order.questions}, second_there, name)
 
     def test_each_call_ends_in_no_more_questions_than_told(self):
         for function, handed, order, name in asked_calls():
             function(*handed, order)
-            sizes = [len(row) for row in handed if isinstance(row, list)]
-            self.assertLessEqual(order.count(), most_questions(function, *sizes), name)
+            self.assertLessEqual(order.count(), most_questions(function, handed), name)
 
     def test_answers_of_any_size_count_by_their_sign(self):
         for n in SIZES:
@@ -143,24 +184,73 @@ class EveryKindTest(unittest.TestCase):
         self.assert_same(both(one, self.bare, by_kind), one)
         self.assert_same(without(self.bare, one, by_kind), other)
 
+    def popped(self, heap):
+        """All that a heap holds, as it comes; each heap on the way is one."""
+        told = []
+        while heap:
+            self.assertIs(is_heap(heap, by_kind), True)
+            first, heap = pop(heap, by_kind)
+            told.append(first)
+        return told
+
+    def test_heaps(self):
+        heap = []
+        for element in EVERY_KIND:
+            heap = push(heap, element, by_kind)
+        self.assert_same(self.popped(heap), self.row)
+        self.assert_same(self.popped(heaped(EVERY_KIND, by_kind)), self.row)
+        self.assertIs(is_heap(self.row, by_kind), True)
+        self.assertIs(is_heap(EVERY_KIND, by_kind), False)
+
+    def test_picks(self):
+        n = len(EVERY_KIND)
+        self.assert_same(least(EVERY_KIND, by_kind), self.row[0])
+        self.assert_same(ends(EVERY_KIND, by_kind), (self.row[0], self.row[-1]))
+        for many in range(n + 2):
+            self.assert_same(best(EVERY_KIND, many, by_kind), self.row[:many])
+        for place in range(n):
+            self.assert_same(nth(EVERY_KIND, place, by_kind), self.row[place])
+        self.assertEqual(turned_pairs(self.row, by_kind), 0)
+        self.assertEqual(turned_pairs(self.bare[::-1], by_kind), len(self.bare) * (len(self.bare) - 1) // 2)
+        self.assertEqual(rising(self.bare, by_kind), steps(len(self.bare)))
+        self.assertEqual(len(rising(self.row, by_kind)), len(self.bare))
+
     def test_all_like(self):
         row = [None, True, 0, "a", (), 1, False]
         like = lambda first, second: 0
         self.assert_same(stable(row, like), row)
         self.assert_same(unique(row, like), [None])
         self.assert_same(merged(row, row[::-1], like), row + row[::-1])
+        self.assert_same(best(row, 4, like), row[:4])
+        self.assert_same(nth(row, 6, like), False)
+        self.assertIsNone(least(row, like))
+        self.assertEqual(len(rising(row, like)), 1)
+        self.assertEqual(turned_pairs(row, like), 0)
+        self.assertIs(is_heap(row, like), True)
 
     def test_the_same_object_many_times(self):
         row = [None] * 300
         like = lambda first, second: 0
+        behind = lambda first, second: 1
         self.assert_same(stable(row, like), row)
-        self.assert_same(stable([None] * 300, lambda first, second: 1), row)
+        self.assert_same(stable([None] * 300, behind), row)
         self.assert_same(merged(row, row, like), row + row)
+        self.assert_same(heaped(row, behind), row)
+        self.assert_same(push(row, None, behind), row + [None])
+        self.assert_same(pop(row, behind), (None, row[1:]))
+        self.assert_same(best(row, 200, behind), row[:200])
+        self.assertIsNone(least(row, like))
+        self.assertEqual(ends(row, behind), (None, None))
 
     def test_rows_somewhat_beyond_the_bound(self):
         row = numbers(700, 50, 3)
         self.assertEqual(stable(row, by_number), sorted(row))
         self.assertEqual(merged(sorted(row), sorted(row), by_number), sorted(row + row))
+        self.assertIs(is_heap(heaped(row, by_number), by_number), True)
+        self.assertEqual(best(row, 650, by_number), sorted(row)[:650])
+        self.assertEqual(nth(row, 650, by_number), sorted(row)[650])
+        self.assertEqual(rising(steps(700), by_number), steps(700))
+        self.assertEqual(turned_pairs(steps(700)[::-1], by_number), 350 * 699)
 
 
 if __name__ == "__main__":

@@ -26,6 +26,15 @@ WORDS_NOT_USED = re.compile(
     r"|NamedTuple|TypedDict|TYPE_CHECKING|abstractmethod)\b|dataclass|overload|contextmanager")
 NAMES_NOT_USED = ("register", "mro", "elements", "open", "input", "version_info", "with_traceback", "add_note",
                   "format", "format_map")
+METHODS_OF_PYTHONS_OWN = set("""
+    append clear copy count endswith extend find get index insert isalnum isalpha isdigit islower isspace isupper items
+    join keys ljust lower lstrip partition pop remove replace reverse rfind rjust rpartition rsplit rstrip setdefault
+    split splitlines startswith strip update upper values zfill bit_length""".split())
+NOT_AS_VALUES = set("""
+    items keys values pop update append clear extend insert remove reverse setdefault sort args encode
+    format""".split())
+WALKED_AT_ONCE = ("zip", "enumerate", "reversed", "range")
+WALKING = ("list", "tuple", "dict", "sorted", "sum", "any", "all", "enumerate", "zip")
 
 
 def read(path):
@@ -53,6 +62,18 @@ def names_bound(tree):
         elif isinstance(node, ast.alias):
             bound.add(node.asname or node.name)
     return bound
+
+
+def methods_and_values():
+    """The names of the methods that the package's classes have, and of the values that its objects are given."""
+    methods = {function.name for _, node in nodes(ast.ClassDef) for function in node.body
+               if isinstance(function, ast.FunctionDef)}
+    values = {node.attr for _, node in nodes(ast.Attribute) if isinstance(node.ctx, ast.Store)}
+    return methods - METHODS, values
+
+
+def is_call_of(node, names):
+    return isinstance(node, ast.Call) and isinstance(node.func, ast.Name) and node.func.id in names
 
 
 class LanguageTest(unittest.TestCase):
@@ -116,6 +137,30 @@ class LanguageTest(unittest.TestCase):
                     self.assertIn(node.id, bound | OWN_NAMES_OF_PYTHON, (path, node.lineno))
                 if isinstance(node, ast.Attribute):
                     self.assertNotIn(node.attr, NAMES_NOT_USED, (path, node.lineno))
+
+    def test_methods_and_values(self):  # L18, L25, L26
+        methods, values = methods_and_values()
+        self.assertFalse(methods & values)
+        self.assertFalse(values & NOT_AS_VALUES)
+        called = {node.func.attr for _, node in nodes(ast.Call) if isinstance(node.func, ast.Attribute)}
+        self.assertLessEqual(called, METHODS_OF_PYTHONS_OWN | methods)
+        own = {name for kind in (str, int, list, dict, set, bytes) for name in dir(kind)}
+        self.assertLessEqual(methods & own, METHODS_OF_PYTHONS_OWN | {"add", "discard"})
+
+    def test_walked_at_once(self):  # L23
+        for name, node in nodes(ast.AST):
+            walked = [node.iter] if isinstance(node, (ast.For, ast.comprehension)) else []
+            if is_call_of(node, WALKING):
+                walked = node.args[:1]
+            for part in ast.iter_child_nodes(node):
+                if is_call_of(part, WALKED_AT_ONCE):
+                    self.assertTrue(any(part is each for each in walked), (name, part.lineno))
+
+    def test_what_a_class_holds(self):  # L5
+        for name, node in nodes(ast.ClassDef):
+            self.assertLessEqual(len(node.bases), 1, name)
+            for part in node.body:
+                self.assertIsInstance(part, (ast.FunctionDef, ast.Pass), (name, part.lineno))
 
 
 if __name__ == "__main__":
