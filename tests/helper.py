@@ -85,6 +85,16 @@ def rising(many, step=1, start=0):
     return [start + step * place for place in range(many)]
 
 
+def rows_of(n):
+    """Rows of n elements: many like ones and none, mixed, in order, turned about, all alike."""
+    yield tagged(numbers(n, 4, n))
+    yield tagged(numbers(n, n // 2 + 1, n + 1))
+    yield tagged(sorted(range(n), key=lambda number: number * 7919 % 1009))
+    yield tagged(rising(n))
+    yield tagged(rising(n)[::-1])
+    yield tagged([5] * n)
+
+
 def inserted(row, order):
     """The stable order, found by plain insertion."""
     told = []

@@ -3,8 +3,8 @@
 import unittest
 from itertools import permutations, product
 
-from helper import (Asked, by_number, by_size, by_tag, inserted, log, no_orders, numbers, rising, scripted, sign,
-                    tagged, told_in_turn)
+from helper import (Asked, by_number, by_size, by_tag, inserted, log, no_orders, numbers, rising, rows_of, scripted,
+                    sign, tagged, told_in_turn)
 from yourorder.errors import NoElement
 from yourorder.heaps import heaped, is_heap, pop, push
 
@@ -14,16 +14,6 @@ EVERY_SIZE = range(301)
 def looks_like_a_heap(row, order):
     """A plain look at every place."""
     return all(order(row[k], row[(k - 1) // 2]) >= 0 for k in range(1, len(row)))
-
-
-def rows_of(n):
-    """Rows of n elements: many like ones and none, mixed, in order, turned about, all alike."""
-    yield tagged(numbers(n, 4, n))
-    yield tagged(numbers(n, n // 2 + 1, n + 1))
-    yield tagged(sorted(range(n), key=lambda number: number * 7919 % 1009))
-    yield tagged(rising(n))
-    yield tagged(rising(n)[::-1])
-    yield tagged([5] * n)
 
 
 def dear_heaps(n):

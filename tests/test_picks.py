@@ -4,23 +4,14 @@ import unittest
 from collections import Counter
 from itertools import combinations, permutations, product
 
-from helper import (Asked, by_number, by_size, by_tag, by_text, inserted, log, no_orders, numbers, scripted, tagged)
+from helper import (Asked, by_number, by_size, by_tag, by_text, inserted, log, no_orders, numbers, rows_of, scripted,
+                    tagged)
 from helper import rising as steps
 from yourorder.errors import NoElement, NoPlace
 from yourorder.picks import best, ends, least, nth, rising, turned_pairs
 
 EVERY_SIZE = range(301)
 SOME_SIZES = list(range(40)) + [63, 64, 65, 100, 127, 128, 129, 255, 256, 257, 299, 300]
-
-
-def rows_of(n):
-    """Rows of n elements: many like ones and none, mixed, in order, turned about, all alike."""
-    yield tagged(numbers(n, 4, n))
-    yield tagged(numbers(n, n // 2 + 1, n + 1))
-    yield tagged(sorted(range(n), key=lambda number: number * 7919 % 1009))
-    yield tagged(steps(n))
-    yield tagged(steps(n)[::-1])
-    yield tagged([5] * n)
 
 
 def small_rows(most):
@@ -173,6 +164,12 @@ class BestTest(unittest.TestCase):
                 in_order = inserted(row, by_tag)
                 for many in range(n + 5):
                     self.check(row, many, in_order)
+
+    def test_every_count_of_the_longest_row(self):
+        for row in (tagged(numbers(300, 20, 1)), tagged(steps(300)[::-1])):
+            in_order = inserted(row, by_tag)
+            for many in range(303):
+                self.check(row, many, in_order)
 
     def test_none_is_asked_of_a_count_of_0(self):
         for n in EVERY_SIZE:
