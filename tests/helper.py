@@ -58,6 +58,9 @@ def by_kind(first, second):
 EVERY_KIND = [(), 3, "", None, True, (None, (1, "a")), "b", -10 ** 30, False, 1, 0, "a", (1,), (True,), "B", 10 ** 30,
               None, True, 1, ("a", "a"), (None, (1, "a")), 0, False, ""]
 
+# Of more digits than Python writes as a text: a test that failed couldn't show it, so it stands in no message.
+FAR = 10 ** 5000
+
 
 def log(number):
     k = 0

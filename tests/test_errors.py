@@ -2,7 +2,7 @@
 
 import unittest
 
-from helper import Asked, by_number, by_tag, rising, scripted, tagged
+from helper import FAR, Asked, by_number, by_tag, rising, scripted, tagged
 from yourorder.errors import NoElement, NoPlace, OrderError
 from yourorder.heaps import pop
 from yourorder.maps import Map
@@ -77,6 +77,34 @@ class RaisedTest(unittest.TestCase):
                     self.refused(NoPlace, lambda: kept.at(place))
             self.assertEqual(order.count(), asked)
             self.assertEqual(kept.pairs(), [(key, "held") for key in rising(n)])
+
+    def test_nth_of_places_of_many_digits(self):
+        for n in (0, 1, 3, 300):
+            row = rising(n)[::-1]
+            for place in (FAR, -FAR):
+                self.refused(NoPlace, lambda: nth(row, place, scripted([])))
+                self.assertEqual(row, rising(n)[::-1])
+
+    def test_at_of_places_of_many_digits(self):
+        for n in (0, 1, 3, 300):
+            order = Asked(by_number)
+            kept = Map(order)
+            for key in rising(n):
+                kept.put(key, "held")
+            asked = order.count()
+            for place in (FAR, -FAR):
+                self.refused(NoPlace, lambda: kept.at(place))
+            self.assertEqual(order.count(), asked)
+            self.assertEqual(kept.pairs(), [(key, "held") for key in rising(n)])
+
+    def test_get_of_a_key_of_many_digits(self):
+        for keys in ([], [0], [0, FAR], [-FAR, 0, FAR]):
+            kept = Map(by_number)
+            for key in keys:
+                kept.put(key, None)
+            for key in (FAR + 1, FAR - 1, -FAR - 1):
+                self.refused(NoElement, lambda: kept.get(key))
+            self.assertTrue(kept.pairs() == [(key, None) for key in keys])
 
     def test_get_without_the_key(self):
         for n in (0, 1, 2, 3, 150, 300):

@@ -3,7 +3,7 @@ elements of every kind, and what may be asked. What they ask of maps is tested b
 
 import unittest
 
-from helper import (EVERY_KIND, Asked, by_kind, by_number, by_tag, inserted, log, no_orders, numbers, same, sign,
+from helper import (EVERY_KIND, FAR, Asked, by_kind, by_number, by_tag, inserted, log, no_orders, numbers, same, sign,
                     tagged)
 from helper import rising as steps
 from yourorder.heaps import heaped, is_heap, pop, push
@@ -143,9 +143,58 @@ class HandedInTest(unittest.TestCase):
         for n in SIZES:
             for function, handed in calls(n):
                 wanted = function(*handed, lambda a, b: sign(a[0] - b[0]))
-                for factor in (2, 3, 10 ** 30):
+                for factor in (2, 3, 10 ** 30, FAR):
                     told = function(*handed, lambda a, b: (a[0] - b[0]) * factor)
-                    self.assertEqual(told, wanted, (function.__name__, n, factor))
+                    self.assertEqual(told, wanted, (function.__name__, n, factor.bit_length()))
+
+
+class ManyDigitsTest(unittest.TestCase):
+    """No point bounds a whole number: elements, keys and counts of more digits than Python writes as a text."""
+
+    def setUp(self):
+        self.row = [-FAR, -1, 0, FAR - 1, FAR]
+        self.mixed = [FAR, 0, -FAR, FAR - 1, -1]
+
+    def assert_told(self, told, wanted):
+        self.assertTrue(told == wanted)
+
+    def test_rows(self):
+        self.assertEqual(ahead(self.row, by_number), 5)
+        self.assertIs(in_order(self.mixed, by_number), False)
+        self.assert_told(stable(self.mixed, by_number), self.row)
+        self.assert_told(merged([-FAR, 0, FAR], [-1, FAR - 1], by_number), self.row)
+        self.assert_told(unique([-FAR] + self.row + [FAR], by_number), self.row)
+        self.assertEqual(lower(self.row, FAR, by_number), 4)
+        self.assertEqual(upper(self.row, -FAR, by_number), 1)
+
+    def test_sets(self):
+        one = [-FAR, 0, FAR]
+        other = [-1, 0, FAR]
+        self.assert_told(either(one, other, by_number), [-FAR, -1, 0, FAR])
+        self.assert_told(both(one, other, by_number), [0, FAR])
+        self.assert_told(without(one, other, by_number), [-FAR])
+
+    def test_heaps(self):
+        heap = heaped(self.mixed, by_number)
+        self.assertIs(is_heap(heap, by_number), True)
+        first, others = pop(push(heap, -FAR - 1, by_number), by_number)
+        self.assert_told(first, -FAR - 1)
+        self.assert_told(sorted(others), self.row)
+
+    def test_picks(self):
+        self.assert_told(least(self.mixed, by_number), -FAR)
+        self.assert_told(ends(self.mixed, by_number), (-FAR, FAR))
+        self.assert_told(nth(self.mixed, 3, by_number), FAR - 1)
+        self.assertEqual(turned_pairs(self.row[::-1], by_number), 10)
+        self.assertEqual(rising(self.row, by_number), steps(5))
+
+    def test_counts(self):
+        for row in ([], [7], [3, 1, 2], steps(300)[::-1]):
+            order = Asked(by_number)
+            self.assertEqual(best(row, FAR, order), sorted(row))
+            self.assertLessEqual(order.count(), len(row) * (log(len(row)) + 1))
+            self.assertEqual(best(row, -FAR, by_number), [])
+        self.assert_told(best(self.mixed, FAR, by_number), self.row)
 
 
 class EveryKindTest(unittest.TestCase):

@@ -4,8 +4,8 @@ import unittest
 from collections import Counter
 from itertools import product
 
-from helper import (EVERY_KIND, Asked, by_kind, by_number, by_size, by_tag, inserted, log, no_orders, numbers, rising,
-                    same, scripted, tagged, told_in_turn)
+from helper import (EVERY_KIND, FAR, Asked, by_kind, by_number, by_size, by_tag, inserted, log, no_orders, numbers,
+                    rising, same, scripted, tagged, told_in_turn)
 from yourorder.errors import NoElement, NoPlace
 from yourorder.maps import Map
 
@@ -251,6 +251,20 @@ class EveryKindTest(unittest.TestCase):
             kept.put(key, held)
         self.assertTrue(same(kept.pairs(), list(enumerate(EVERY_KIND))))
         self.assertEqual(kept.size(), len(EVERY_KIND))
+
+    def test_keys_and_values_of_many_digits(self):
+        kept = Map(by_number)
+        for key in (FAR, 0, -FAR):
+            self.assertIs(kept.put(key, "before"), True)
+            self.assertIs(kept.put(key, -key), False)
+        self.assertTrue(kept.pairs() == [(-FAR, FAR), (0, 0), (FAR, -FAR)])
+        self.assertTrue(kept.at(2) == (FAR, -FAR))
+        self.assertTrue(kept.get(-FAR) == FAR)
+        self.assertEqual([kept.rank(key) for key in (-FAR, FAR - 1, FAR, FAR + 1)], [0, 2, 2, 3])
+        self.assertIs(kept.has(FAR + 1), False)
+        self.assertIs(kept.drop(FAR + 1), False)
+        self.assertIs(kept.drop(FAR), True)
+        self.assertTrue(kept.copy().pairs() == [(-FAR, FAR), (0, 0)])
 
     def test_a_value_of_none_is_there(self):
         kept = Map(by_number)

@@ -39,9 +39,10 @@ class Map:
     def size(self):
         return len(self.kept)
 
+    # The refusal doesn't name the place: Python writes no number of more than some thousand digits as a text.
     def at(self, place):
         if place < 0 or place >= len(self.kept):
-            raise NoPlace(f"the map has no place {place}")
+            raise NoPlace("the map has no such place")
         return self.kept[place]
 
     def pairs(self):

@@ -41,9 +41,10 @@ def best(row, many, order):
     return kept
 
 
+# The refusal doesn't name the place: Python writes no number of more than some thousand digits as a text.
 def nth(row, k, order):
     if k < 0 or k >= len(row):
-        raise NoPlace(f"the row has no place {k}")
+        raise NoPlace("the row has no such place")
     return stable(row, order)[k]
 
 
